@@ -2,6 +2,7 @@ package tests
 
 import (
 	"fmt"
+	"maps"
 	"math"
 	"slices"
 	"testing"
@@ -193,15 +194,21 @@ func edgeHeaps() map[string]impl.Heap {
 
 // manyHeaps has the small, the edge and many drawn heaps.
 func manyHeaps() []impl.Heap {
-	heaps := smallHeaps()
-	for _, h := range edgeHeaps() {
-		heaps = append(heaps, h)
-	}
+	heaps := append(smallHeaps(), inOrder(edgeHeaps())...)
 	d := draws(5)
 	for round := range 1300 {
 		heaps = append(heaps, drawnHeap(&d, round%13))
 	}
 	return heaps
+}
+
+// inOrder has the cases in the order of their names, so that every run is the same.
+func inOrder[T any](cases map[string]T) []T {
+	var l []T
+	for _, name := range slices.Sorted(maps.Keys(cases)) {
+		l = append(l, cases[name])
+	}
+	return l
 }
 
 // farNumbers has values that overflow in sums and products, or are small again in 32 bits or less.
@@ -430,10 +437,7 @@ func isRefRule(h impl.Heap, to int) bool {
 
 func TestSetField(t *testing.T) {
 	d := draws(52)
-	heaps := []impl.Heap{}
-	for _, h := range edgeHeaps() {
-		heaps = append(heaps, h)
-	}
+	heaps := inOrder(edgeHeaps())
 	for round := range 26 {
 		heaps = append(heaps, drawnHeap(&d, round%13))
 	}
@@ -773,10 +777,7 @@ func heapResults(h, other impl.Heap, from []int) string {
 
 // Promise 19, the second half: no argument is modified, and what lies behind its length is neither read nor written.
 func TestHeapsAreNotModified(t *testing.T) {
-	all := manyHeaps()
-	for _, h := range invalidHeaps() {
-		all = append(all, h)
-	}
+	all := append(manyHeaps(), inOrder(invalidHeaps())...)
 	for k, plain := range all {
 		other, from := all[(k+1)%len(all)], []int{0, 0}
 		p, q, r := paddedHeap(plain), paddedHeap(other), padded(from, 1, 2)
