@@ -185,27 +185,33 @@ func checkStep(t *testing.T, m impl.Marking, v impl.Move) {
 	}
 }
 
-// movesAround has the moves whose fields are at, or next to, what the marking allows.
-func movesAround(m impl.Marking) []impl.Move {
-	things, roots := len(m.Heap.Live), len(m.Heap.Roots)
+// changesAround has the changes of a heap that are at, or next to, what it allows, with the given kinds.
+func changesAround(h impl.Heap, field, root, fresh int) []impl.Move {
+	things, roots := len(h.Live), len(h.Roots)
 	var l []impl.Move
-	for _, a := range []int{-1, 0, 1, 2, 3, 5, 99, 100, 101} {
-		l = append(l, impl.Move{Kind: mvScan, A: a})
-	}
 	for to := -2; to <= things; to++ {
 		for a := -1; a <= things; a++ {
 			for b := -1; b <= 3; b++ {
-				l = append(l, impl.Move{Kind: mvField, A: a, B: b, To: to})
+				l = append(l, impl.Move{Kind: field, A: a, B: b, To: to})
 			}
 		}
 		for a := -1; a <= roots; a++ {
-			l = append(l, impl.Move{Kind: mvRoot, A: a, To: to})
+			l = append(l, impl.Move{Kind: root, A: a, To: to})
 		}
 	}
 	for a := -1; a <= 4; a++ {
 		for b := -1; b <= roots; b++ {
-			l = append(l, impl.Move{Kind: mvNew, A: a, B: b})
+			l = append(l, impl.Move{Kind: fresh, A: a, B: b})
 		}
+	}
+	return l
+}
+
+// movesAround has the moves whose fields are at, or next to, what the marking allows.
+func movesAround(m impl.Marking) []impl.Move {
+	l := changesAround(m.Heap, mvField, mvRoot, mvNew)
+	for _, a := range []int{-1, 0, 1, 2, 3, 5, 99, 100, 101} {
+		l = append(l, impl.Move{Kind: mvScan, A: a})
 	}
 	for kind := -1; kind <= 6; kind++ {
 		l = append(l, impl.Move{Kind: kind}, impl.Move{Kind: kind, B: 1}, impl.Move{Kind: kind, To: 1}, impl.Move{Kind: kind, To: -1}, impl.Move{Kind: kind, B: -1})
@@ -724,24 +730,30 @@ func TestReachableObjectsAreKept(t *testing.T) {
 	}
 }
 
-// movesWithin has every scan, every change of a field or a root, and every allocation of an object with one field, reachable or not.
-func movesWithin(m impl.Marking) []impl.Move {
+// changesWithin has every change of a field or a root, and every allocation of an object with one field, with the given kinds.
+func changesWithin(h impl.Heap, field, root, fresh int) []impl.Move {
 	var l []impl.Move
-	for a := range placesOf(m.Colours, grey) {
-		l = append(l, impl.Move{Kind: mvScan, A: a})
-	}
-	for to := -1; to < len(m.Heap.Live); to++ {
-		for a, fields := range m.Heap.Fields {
+	for to := -1; to < len(h.Live); to++ {
+		for a, fields := range h.Fields {
 			for b := range fields {
-				l = append(l, impl.Move{Kind: mvField, A: a, B: b, To: to})
+				l = append(l, impl.Move{Kind: field, A: a, B: b, To: to})
 			}
 		}
-		for a := range m.Heap.Roots {
-			l = append(l, impl.Move{Kind: mvRoot, A: a, To: to})
+		for a := range h.Roots {
+			l = append(l, impl.Move{Kind: root, A: a, To: to})
 		}
 	}
-	for b := range m.Heap.Roots {
-		l = append(l, impl.Move{Kind: mvNew, A: 1, B: b})
+	for b := range h.Roots {
+		l = append(l, impl.Move{Kind: fresh, A: 1, B: b})
+	}
+	return l
+}
+
+// movesWithin has every scan and every change, of what is reachable or not.
+func movesWithin(m impl.Marking) []impl.Move {
+	l := changesWithin(m.Heap, mvField, mvRoot, mvNew)
+	for a := range placesOf(m.Colours, grey) {
+		l = append(l, impl.Move{Kind: mvScan, A: a})
 	}
 	return l
 }
